@@ -1,0 +1,197 @@
+package tests
+
+import (
+	"fmt"
+	"math"
+	"slices"
+	"strings"
+
+	"loop.example/g01259/impl"
+)
+
+type Peg = impl.Peg
+
+// pegsOf reads pegs, any number of them and polygon or not, without the program's help.
+func pegsOf(text string) []Peg {
+	var pegs []Peg
+	for _, word := range strings.Fields(text) {
+		var p Peg
+		if _, err := fmt.Sscanf(word, "%d,%d", &p.X, &p.Y); err != nil {
+			panic(word)
+		}
+		pegs = append(pegs, p)
+	}
+	return pegs
+}
+
+func less(p, q Peg) Peg {
+	return Peg{X: p.X - q.X, Y: p.Y - q.Y}
+}
+
+func cross(p, q Peg) int {
+	return p.X*q.Y - p.Y*q.X
+}
+
+func dot(p, q Peg) int {
+	return p.X*q.X + p.Y*q.Y
+}
+
+// onLine: p sees both ends in opposite directions, or is one of them.
+func onLine(a, b, p Peg) bool {
+	return cross(less(a, p), less(b, p)) == 0 && dot(less(a, p), less(b, p)) <= 0
+}
+
+// meet solves a + t (b - a) = c + u (d - c) in fractions.
+func meet(a, b, c, d Peg) bool {
+	r, s := less(b, a), less(d, c)
+	den := cross(r, s)
+	if den == 0 {
+		return onLine(a, b, c) || onLine(a, b, d) || onLine(c, d, a)
+	}
+	t, u := cross(less(c, a), s), cross(less(c, a), r)
+	if den < 0 {
+		den, t, u = -den, -t, -u
+	}
+	return 0 <= t && t <= den && 0 <= u && u <= den
+}
+
+// polygon is the document's sentence on polygons, line by line.
+func polygon(corners []Peg) bool {
+	n := len(corners)
+	if n < 3 || n > 10 {
+		return false
+	}
+	for i, p := range corners {
+		if p.X < -40 || p.X > 40 || p.Y < -40 || p.Y > 40 || slices.Index(corners, p) != i {
+			return false
+		}
+	}
+	for i := range n {
+		a, b, c := corners[i], corners[(i+1)%n], corners[(i+2)%n]
+		if cross(less(b, a), less(c, a)) == 0 {
+			return false
+		}
+		for j := i + 2; j < n; j++ {
+			if (j+1)%n != i && meet(a, b, corners[j], corners[(j+1)%n]) {
+				return false
+			}
+		}
+	}
+	return true
+}
+
+// place sends a ray from p that no other peg is on, and counts the lines it meets.
+func place(corners []Peg, p Peg) int {
+	n := len(corners)
+	met := 0
+	for i := range n {
+		a, b := corners[i], corners[(i+1)%n]
+		if onLine(a, b, p) {
+			return 0
+		}
+		if meet(a, b, p, Peg{X: p.X + 1000, Y: p.Y + 1}) {
+			met++
+		}
+	}
+	return 2*(met%2) - 1
+}
+
+// placed lists all pegs at a place, in order.
+func placed(corners []Peg, at int) []Peg {
+	var pegs []Peg
+	for x := -40; x <= 40; x++ {
+		for y := -40; y <= 40; y++ {
+			if p := (Peg{X: x, Y: y}); place(corners, p) == at {
+				pegs = append(pegs, p)
+			}
+		}
+	}
+	return pegs
+}
+
+// fan adds the triangles that the first corner makes with each line.
+func fan(corners []Peg) int {
+	sum := 0
+	for i := 2; i < len(corners); i++ {
+		sum += cross(less(corners[i-1], corners[0]), less(corners[i], corners[0]))
+	}
+	return sum
+}
+
+// lists calls f with all lists of n pegs of the board 0..2, 0..2, pegs repeated or not.
+func lists(n int, f func([]Peg)) {
+	list := make([]Peg, n)
+	var fill func(int)
+	fill = func(i int) {
+		if i == n {
+			f(list)
+			return
+		}
+		for k := range 9 {
+			list[i] = Peg{X: k / 3, Y: k % 3}
+			fill(i + 1)
+		}
+	}
+	fill(0)
+}
+
+// polygons are valid ones of all sorts: empty ones, to both sides, convex and
+// not, with corners on one straight line that are not next to each other, and
+// the limits met exactly.
+var polygons = []string{
+	"0,0 1,0 0,1",
+	"0,0 0,1 1,0",
+	"0,0 4,0 0,3",
+	"0,0 0,3 4,0",
+	"5,3 7,4 6,4",
+	"-1,-1 1,0 0,1",
+	"3,3 -2,3 -2,-1 3,-1",
+	"-40,-40 40,-40 40,40 -40,40",
+	"40,40 40,39 39,40",
+	"0,0 4,0 4,4 2,1 0,4",
+	"2,1 0,4 0,0 4,0 4,4",
+	"0,0 2,0 2,1 3,1 3,0 5,0 5,3 0,3",
+	"0,0 6,0 6,6 2,6 2,3 3,3 3,5 5,5 5,1 0,1",
+	"-3,0 -2,-2 0,-3 2,-2 3,0 2,2 1,3 0,3 -2,2 -3,1",
+	"0,0 1,5 2,0 3,5 4,0 4,7 3,6 2,7 1,6 0,7",
+	"-40,0 40,1 -39,1",
+	"-26,10 -27,14 -30,12",
+	"10,-26 14,-27 12,-30",
+}
+
+// notPolygons are lists that are none.
+var notPolygons = [][]Peg{
+	nil,
+	{},
+	pegsOf("0,0"),
+	pegsOf("0,0 1,0"),
+	pegsOf("0,0 1,1 2,2"),
+	pegsOf("0,0 0,0 0,0"),
+	pegsOf("0,0 1,0 0,1 0,1"),
+	pegsOf("0,0 1,0 0,1 0,0"),
+	pegsOf("0,0 2,0 4,0 0,3"),
+	pegsOf("2,0 4,0 0,3 0,0"),
+	pegsOf("4,0 0,3 0,0 2,0"),
+	pegsOf("0,0 4,0 2,0 0,3"),
+	pegsOf("0,0 2,2 2,0 0,2"),
+	pegsOf("0,0 4,0 4,4 2,0 0,4"),
+	pegsOf("2,0 0,4 0,0 4,0 4,4"),
+	pegsOf("0,0 4,0 4,4 0,0 2,4 0,4"),
+	pegsOf("0,0 6,0 6,2 4,0 2,0 0,2"),
+	pegsOf("6,0 6,6 0,6 0,0 5,0 5,5 1,5 1,1 4,1 4,0"),
+	pegsOf("0,0 41,0 0,1"),
+	pegsOf("0,0 1,0 0,-41"),
+	pegsOf("-41,0 1,0 0,1"),
+	pegsOf("0,0 1,0 0,41"),
+	pegsOf("0,0 1,-1 2,0 3,-1 4,0 4,7 3,6 2,7 1,6 0,7 -1,5"),
+	{{X: math.MinInt, Y: 0}, {X: math.MaxInt, Y: 0}, {X: 0, Y: math.MaxInt}},
+	{{X: 0, Y: math.MinInt}, {X: 1, Y: math.MinInt}, {X: 0, Y: math.MaxInt}},
+	make([]Peg, 1000),
+}
+
+// notPegs are points of all sorts of sizes.
+var notPegs = []Peg{
+	{X: 41}, {X: -41}, {Y: 41}, {Y: -41},
+	{X: math.MaxInt}, {X: math.MinInt}, {Y: math.MaxInt}, {Y: math.MinInt},
+	{X: math.MinInt, Y: math.MinInt}, {X: 1 << 32}, {Y: -1 << 32},
+}
