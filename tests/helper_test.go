@@ -3,8 +3,10 @@ package tests
 import (
 	"fmt"
 	"math"
+	"reflect"
 	"slices"
 	"strings"
+	"testing"
 
 	"loop.example/g01259/impl"
 )
@@ -194,4 +196,91 @@ var notPegs = []Peg{
 	{X: 41}, {X: -41}, {Y: 41}, {Y: -41},
 	{X: math.MaxInt}, {X: math.MinInt}, {Y: math.MaxInt}, {Y: math.MinInt},
 	{X: math.MinInt, Y: math.MinInt}, {X: 1 << 32}, {Y: -1 << 32},
+}
+
+// call is a function of the program that takes corners; any is all of its results but the last one.
+type call = func([]Peg) (any, bool)
+
+func pair[T any](v T, ok bool) (any, bool) { return v, ok }
+
+// isNothing holds for zero values and for empty slices.
+func isNothing(v any) bool {
+	r := reflect.ValueOf(v)
+	return r.IsZero() || r.Kind() == reflect.Slice && r.Len() == 0
+}
+
+// checkFailing: each call fails for each of the lists, and returns nothing else.
+func checkFailing(t *testing.T, calls map[string]call, lists [][]Peg) {
+	t.Helper()
+	for name, call := range calls {
+		for _, l := range lists {
+			if v, ok := call(slices.Clone(l)); ok || !isNothing(v) {
+				t.Error(name, l, v, ok)
+			}
+		}
+	}
+}
+
+// checkKept: each call succeeds for each of the polygons, changes neither its corners nor what is behind them in
+// memory, and returns new memory, of which no two slices share any.
+func checkKept(t *testing.T, calls map[string]call, texts []string) {
+	t.Helper()
+	for name, call := range calls {
+		for _, s := range texts {
+			room := append(pegsOf(s), pegsOf("9,9 -9,9 41,0 8,8")...)
+			kept := slices.Clone(room)
+			l := room[:len(room)-4]
+			one, ok := call(l)
+			if !ok || !slices.Equal(room, kept) {
+				t.Error(name, s, room, ok)
+				continue
+			}
+			other, _ := call(l)
+			again, _ := call(slices.Clone(l))
+			if !fillAll(one) || !slices.Equal(room, kept) || !reflect.DeepEqual(other, again) {
+				t.Error(name, s, "shares memory")
+			}
+		}
+	}
+}
+
+// fillAll fills each slice of a result with something of its own, up to its capacity, and reports whether each has
+// it still when all are filled.
+func fillAll(result any) bool {
+	all := innerSlices(reflect.ValueOf(result))
+	for i, s := range all {
+		for k := range s.Len() {
+			s.Index(k).Set(filling(s.Type().Elem(), i))
+		}
+	}
+	for i, s := range all {
+		for k := range s.Len() {
+			if !s.Index(k).Equal(filling(s.Type().Elem(), i)) {
+				return false
+			}
+		}
+	}
+	return true
+}
+
+func filling(of reflect.Type, i int) reflect.Value {
+	if of == reflect.TypeFor[Peg]() {
+		return reflect.ValueOf(Peg{X: 7777 + i, Y: -7777})
+	}
+	return reflect.ValueOf(7777 + i)
+}
+
+// innerSlices are the slices of a value that have no slices in them, each up to its capacity.
+func innerSlices(v reflect.Value) []reflect.Value {
+	if v.Kind() != reflect.Slice {
+		return nil
+	}
+	if v.Type().Elem().Kind() != reflect.Slice {
+		return []reflect.Value{v.Slice(0, v.Cap())}
+	}
+	var all []reflect.Value
+	for i := range v.Len() {
+		all = append(all, innerSlices(v.Index(i))...)
+	}
+	return all
 }

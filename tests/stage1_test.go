@@ -2,7 +2,6 @@ package tests
 
 import (
 	"math"
-	"reflect"
 	"slices"
 	"testing"
 
@@ -398,8 +397,8 @@ func TestParseNoPolygon(t *testing.T) {
 }
 
 // onPolygons are all functions of the chapter that take a polygon, with other arguments that are valid.
-func onPolygons() map[string]func([]Peg) (any, bool) {
-	return map[string]func([]Peg) (any, bool){
+func onPolygons() map[string]call {
+	return map[string]call{
 		"IsPolygon":     func(l []Peg) (any, bool) { return false, impl.IsPolygon(l) },
 		"TwiceArea":     func(l []Peg) (any, bool) { return pair(impl.TwiceArea(l)) },
 		"PegsOn":        func(l []Peg) (any, bool) { return pair(impl.PegsOn(l)) },
@@ -416,48 +415,11 @@ func onPolygons() map[string]func([]Peg) (any, bool) {
 	}
 }
 
-func pair[T any](v T, ok bool) (any, bool) { return v, ok }
-
 func TestNoPolygonFails(t *testing.T) {
-	for name, call := range onPolygons() {
-		for _, l := range notPolygons {
-			v, ok := call(slices.Clone(l))
-			r := reflect.ValueOf(v)
-			if ok || !r.IsZero() && !(r.Kind() == reflect.Slice && r.Len() == 0) {
-				t.Error(name, l, v, ok)
-			}
-		}
-		for _, s := range polygons {
-			if _, ok := call(pegsOf(s)); !ok {
-				t.Error(name, s, "fails")
-			}
-		}
-	}
+	checkFailing(t, onPolygons(), notPolygons)
 }
 
 // TestArgumentsAreKept is promise 11: neither the corners nor what is behind them in memory change.
 func TestArgumentsAreKept(t *testing.T) {
-	for name, call := range onPolygons() {
-		for _, s := range polygons {
-			room := append(pegsOf(s), pegsOf("9,9 -9,9 41,0 8,8")...)
-			kept := slices.Clone(room)
-			l := room[:len(room)-4]
-			one, _ := call(l)
-			if !slices.Equal(room, kept) {
-				t.Fatal(name, s, room)
-			}
-			result, ok := one.([]Peg)
-			if !ok {
-				continue
-			}
-			other, _ := call(l)
-			told := slices.Clone(result)
-			for i := range result[:cap(result)] {
-				result[:cap(result)][i] = Peg{X: 77, Y: 77}
-			}
-			if !slices.Equal(room, kept) || !slices.Equal(other.([]Peg), told) {
-				t.Error(name, s, "shares memory")
-			}
-		}
-	}
+	checkKept(t, onPolygons(), polygons)
 }
