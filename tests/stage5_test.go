@@ -439,10 +439,25 @@ func TestHasThree(t *testing.T) {
 	}
 }
 
+// TestHasThreeTakesFewPegs: the document names no least number of pegs, so there may be none, other than for
+// AreDifferent.
+func TestHasThreeTakesFewPegs(t *testing.T) {
+	for _, none := range [][]Peg{nil, {}, noThree()[:0], noThree()[53:]} {
+		checkThree(t, none, false)
+		if impl.AreDifferent(none) {
+			t.Error("no pegs are 1 at least")
+		}
+	}
+	for _, p := range []Peg{{}, {X: 3, Y: -4}, {X: -40, Y: -40}, {X: 40, Y: 40}} {
+		checkThree(t, []Peg{p}, false)
+		checkThree(t, []Peg{p, {X: 1, Y: 39}}, false)
+	}
+}
+
 // TestHasThreeMeetsLimits: 50 pegs are the limit, wherever the three of them are in the list.
 func TestHasThreeMeetsLimits(t *testing.T) {
 	all := noThree()
-	for n := 1; n <= 50; n++ {
+	for n := range 51 {
 		checkThree(t, all[:n], false)
 		checkThree(t, all[53-n:], false)
 	}
@@ -473,8 +488,6 @@ func threeCalls() map[string]call {
 
 func TestNoListHasThree(t *testing.T) {
 	none := [][]Peg{
-		nil,
-		{},
 		pegsOf("0,0 0,0"),
 		pegsOf("0,0 1,1 2,2 0,0"),
 		pegsOf("0,0 1,1 1,1 2,2"),
@@ -496,7 +509,7 @@ func TestNoListHasThree(t *testing.T) {
 
 // TestThreesAreKept is promise 11 for lists of pegs.
 func TestThreesAreKept(t *testing.T) {
-	checkKept(t, threeCalls(), append(pegLists, "0,0 1,1 2,2", "2,2 7,1 1,1 5,9 0,0"))
+	checkKept(t, threeCalls(), append(pegLists, "", "0,0 1,1 2,2", "2,2 7,1 1,1 5,9 0,0"))
 }
 
 // firstBy tries all sets in lexicographic order.
