@@ -355,11 +355,21 @@ func placeIn(corners []Peg, p Peg) int {
 	return 1
 }
 
-func tellFrom(corners []Peg, first int, step int) []Peg {
-	n := len(corners)
-	told := make([]Peg, n)
+func tellFrom[T any](list []T, first int, step int) []T {
+	n := len(list)
+	told := make([]T, n)
 	for i := range told {
-		told[i] = corners[(first+i*step+n)%n]
+		told[i] = list[(first+i*step+n)%n]
+	}
+	return told
+}
+
+// tellings tells a list around from each place on, in its order before it goes
+// to the other side, as MoveBetween looks for them.
+func tellings[T any](list []T) [][]T {
+	told := make([][]T, 0, 2*len(list))
+	for first := range list {
+		told = append(told, tellFrom(list, first, 1), tellFrom(list, first, -1))
 	}
 	return told
 }

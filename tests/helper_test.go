@@ -122,15 +122,20 @@ func fan(corners []Peg) int {
 
 // lists calls f with all lists of n pegs of the board 0..2, 0..2, pegs repeated or not.
 func lists(n int, f func([]Peg)) {
-	list := make([]Peg, n)
+	listsOf(n, boardPegs(3, 3), f)
+}
+
+// listsOf calls f with all lists of n of some values, repeated or not.
+func listsOf[T any](n int, values []T, f func([]T)) {
+	list := make([]T, n)
 	var fill func(int)
 	fill = func(i int) {
 		if i == n {
 			f(list)
 			return
 		}
-		for k := range 9 {
-			list[i] = Peg{X: k / 3, Y: k % 3}
+		for _, v := range values {
+			list[i] = v
 			fill(i + 1)
 		}
 	}
@@ -210,7 +215,7 @@ func isNothing(v any) bool {
 }
 
 // checkFailing: each call fails for each of the lists, and returns nothing else.
-func checkFailing(t *testing.T, calls map[string]call, lists [][]Peg) {
+func checkFailing[T any](t *testing.T, calls map[string]func([]T) (any, bool), lists [][]T) {
 	t.Helper()
 	for name, call := range calls {
 		for _, l := range lists {
@@ -221,26 +226,32 @@ func checkFailing(t *testing.T, calls map[string]call, lists [][]Peg) {
 	}
 }
 
-// checkKept: each call succeeds for each of the polygons, changes neither its corners nor what is behind them in
-// memory, and returns new memory, of which no two slices share any.
+// checkKept: each call succeeds for each of the polygons, and keeps to itself.
 func checkKept(t *testing.T, calls map[string]call, texts []string) {
 	t.Helper()
 	for name, call := range calls {
 		for _, s := range texts {
-			room := append(pegsOf(s), pegsOf("9,9 -9,9 41,0 8,8")...)
-			kept := slices.Clone(room)
-			l := room[:len(room)-4]
-			one, ok := call(l)
-			if !ok || !slices.Equal(room, kept) {
-				t.Error(name, s, room, ok)
-				continue
-			}
-			other, _ := call(l)
-			again, _ := call(slices.Clone(l))
-			if !fillAll(one) || !slices.Equal(room, kept) || !reflect.DeepEqual(other, again) {
-				t.Error(name, s, "shares memory")
-			}
+			checkRoom(t, name, call, pegsOf(s), pegsOf("9,9 -9,9 41,0 8,8"))
 		}
+	}
+}
+
+// checkRoom: a call succeeds for a list, changes neither it nor what is behind it in memory, and returns new memory,
+// of which no two slices share any.
+func checkRoom[T comparable](t *testing.T, name string, call func([]T) (any, bool), l, behind []T) {
+	t.Helper()
+	room := slices.Concat(l, behind)
+	kept := slices.Clone(room)
+	l = room[:len(l)]
+	one, ok := call(l)
+	if !ok || !slices.Equal(room, kept) {
+		t.Error(name, kept, room, ok)
+		return
+	}
+	other, _ := call(l)
+	again, _ := call(slices.Clone(l))
+	if !fillAll(one) || !slices.Equal(room, kept) || !reflect.DeepEqual(other, again) {
+		t.Error(name, kept, "shares memory")
 	}
 }
 

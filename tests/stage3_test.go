@@ -134,12 +134,12 @@ func solve(from, to []Peg) (Move, bool) {
 	return m, size(m.A*m.D-m.B*m.C) == 1
 }
 
-// tellings are a polygon told from each corner, in its order and then to the other side.
-func tellings(l []Peg) [][]Peg {
-	var all [][]Peg
+// tellings are a list around told from each place, in its order and then to the other side.
+func tellings[T any](l []T) [][]T {
+	var all [][]T
 	n := len(l)
 	for first := range l {
-		var along, against []Peg
+		var along, against []T
 		for i := range l {
 			along = append(along, l[(first+i)%n])
 			against = append(against, l[(first-i+n)%n])
