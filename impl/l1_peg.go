@@ -282,6 +282,11 @@ func linesMeet(a Peg, b Peg, c Peg, d Peg) bool {
 	if a.isBetween(c, d) || b.isBetween(c, d) || c.isBetween(a, b) || d.isBetween(a, b) {
 		return true
 	}
+	return linesCross(a, b, c, d)
+}
+
+// linesCross leaves out lines that only touch: those with an end on the other one.
+func linesCross(a Peg, b Peg, c Peg, d Peg) bool {
 	return twiceThree(a, b, c)*twiceThree(a, b, d) < 0 && twiceThree(c, d, a)*twiceThree(c, d, b) < 0
 }
 
