@@ -102,14 +102,11 @@ func ListInside(corners []Peg) ([]Peg, bool) {
 		return nil, false
 	}
 	inside := make([]Peg, 0, count)
-	least, greatest := boxAround(corners)
-	for x := least.X; x <= greatest.X; x++ {
-		for y := least.Y; y <= greatest.Y; y++ {
-			if p := (Peg{x, y}); placeIn(corners, p) == 1 {
-				inside = append(inside, p)
-			}
+	visitBox(corners, func(p Peg, place int) {
+		if place == 1 {
+			inside = append(inside, p)
 		}
-	}
+	})
 	return inside, true
 }
 
@@ -336,6 +333,17 @@ func boxAround(pegs []Peg) (Peg, Peg) {
 		greatest = Peg{max(greatest.X, p.X), max(greatest.Y, p.Y)}
 	}
 	return least, greatest
+}
+
+// visitBox tells, in order, all pegs of the box around a polygon with their
+// places: all that are inside or on the lines are among them.
+func visitBox(corners []Peg, visit func(p Peg, place int)) {
+	least, greatest := boxAround(corners)
+	for x := least.X; x <= greatest.X; x++ {
+		for y := least.Y; y <= greatest.Y; y++ {
+			visit(Peg{x, y}, placeIn(corners, Peg{x, y}))
+		}
+	}
 }
 
 // placeIn counts how often the lines go around p. A line counts with its lower
