@@ -207,16 +207,25 @@ func ParsePolygon(s string) ([]Peg, bool) {
 }
 
 func parsePeg(word string) (Peg, bool) {
-	left, right, _ := strings.Cut(word, ",")
-	x, err := strconv.Atoi(left)
-	if err != nil {
+	numbers, ok := parseNumbers(word, ",")
+	if !ok || len(numbers) != 2 {
 		return Peg{}, false
 	}
-	y, err := strconv.Atoi(right)
-	if err != nil {
-		return Peg{}, false
+	return Peg{numbers[0], numbers[1]}, true
+}
+
+// parseNumbers takes all numbers that Atoi takes, also those that no text has.
+func parseNumbers(text string, separator string) ([]int, bool) {
+	words := strings.Split(text, separator)
+	numbers := make([]int, len(words))
+	for i, word := range words {
+		n, err := strconv.Atoi(word)
+		if err != nil {
+			return nil, false
+		}
+		numbers[i] = n
 	}
-	return Peg{x, y}, true
+	return numbers, true
 }
 
 // isOfSize takes no absolute value, as the least int has none.

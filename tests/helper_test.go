@@ -275,14 +275,24 @@ func fillAll(result any) bool {
 }
 
 func filling(of reflect.Type, i int) reflect.Value {
-	if of == reflect.TypeFor[Peg]() {
+	switch of {
+	case reflect.TypeFor[Peg]():
 		return reflect.ValueOf(Peg{X: 7777 + i, Y: -7777})
+	case reflect.TypeFor[Clue]():
+		return reflect.ValueOf(Clue{Kind: 7777 + i, A: -7777})
 	}
 	return reflect.ValueOf(7777 + i)
 }
 
 // innerSlices are the slices of a value that have no slices in them, each up to its capacity.
 func innerSlices(v reflect.Value) []reflect.Value {
+	if v.Kind() == reflect.Struct {
+		var all []reflect.Value
+		for i := range v.NumField() {
+			all = append(all, innerSlices(v.Field(i))...)
+		}
+		return all
+	}
 	if v.Kind() != reflect.Slice {
 		return nil
 	}
